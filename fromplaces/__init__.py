@@ -1,0 +1,1 @@
+"""Fromplaces: what is made of sums of powers of one time."""

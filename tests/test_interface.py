@@ -1,0 +1,65 @@
+"""The names of the interface: in the file that lists them, with the parameters as written; and what the folder holds."""
+
+import importlib
+import inspect
+import os
+import unittest
+
+import fromplaces
+
+FUNCTIONS = {
+    "basics": {"is_integer": "value", "is_count": "value"},
+    "ratios": {"is_number": "value", "Ratio": "top bottom=1"},
+    "polys": {
+        "is_poly": "value", "told": "poly", "degree": "poly", "plus": "poly other", "minus": "poly other",
+        "scaled": "poly number", "derived": "poly", "times": "poly other", "put_in": "poly other",
+        "worth": "poly number", "divided": "poly other",
+    },
+    "parts": {"common": "poly other", "multiple": "poly other", "part_with": "poly other"},
+    "solved": {
+        "steps": "rows", "kernel": "rows wide", "solution": "rows goals", "is_solution": "rows goals value",
+    },
+    "counts": {
+        "common_count": "counts", "is_met": "counts many", "met": "counts many", "least_counts": "counts",
+        "gaps": "counts", "greatest_gap": "counts", "is_mirrored": "counts",
+    },
+    "ways": {
+        "ways": "counts many", "a_way": "counts many", "is_way": "counts many value", "lots_of_ways": "counts many",
+        "turning_counts": "counts",
+    },
+}
+RATIO_METHODS = {"over": "other", "size": "", "is_below": "other", "is_at_most": "other", "total": "numbers"}
+
+
+def parameters(called):
+    return " ".join([str(one) for one in inspect.signature(called).parameters.values()])
+
+
+class Interface(unittest.TestCase):
+
+    def test_functions_and_classes(self):
+        for file, names in FUNCTIONS.items():
+            module = importlib.import_module("fromplaces." + file)
+            for name, wanted in names.items():
+                with self.subTest(file, name=name):
+                    called = getattr(module, name)
+                    self.assertEqual(called.__module__, "fromplaces." + file)
+                    self.assertEqual(parameters(called), wanted)
+
+    def test_ratio(self):
+        ratio = importlib.import_module("fromplaces.ratios").Ratio
+        for name, wanted in RATIO_METHODS.items():
+            self.assertIn(name, vars(ratio))
+            self.assertEqual(parameters(getattr(ratio(1), name)), wanted)
+        for name in ["top", "bottom", "sign", "is_whole"]:
+            self.assertIsInstance(vars(ratio)[name], property)
+        self.assertIsInstance(vars(ratio)["total"], classmethod)
+
+    def test_folder(self):
+        folder = os.path.dirname(fromplaces.__file__)
+        names = [name for name in os.listdir(folder) if name != "__pycache__"]
+        self.assertEqual([name for name in names if not name.endswith(".py")], [])
+
+
+if __name__ == "__main__":
+    unittest.main()
