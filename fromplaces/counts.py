@@ -36,11 +36,7 @@ def met(counts, many):
 def least_counts(counts):
     """The sorted list of the told counts that are no sum of other met ones."""
     check_counts(counts)
-    found = []
-    for one in sorted(set(counts)):
-        if not met_table(found, one)[one]:
-            found.append(one)
-    return found
+    return least_of(counts)
 
 
 def gaps(counts):
@@ -89,6 +85,15 @@ def met_table(counts, many):
 def is_next_met(counts, table, count):
     """Whether the count is met, by a table that tells it of all lesser ones."""
     return any([one <= count and table[count - one] for one in counts])
+
+
+def least_of(counts):
+    """The sorted list of the counts that are no sum of other met ones."""
+    found = []
+    for one in sorted(set(counts)):
+        if not met_table(found, one)[one]:
+            found.append(one)
+    return found
 
 
 def unmet(counts):

@@ -5,11 +5,18 @@ from math import gcd, isqrt
 # 2 to each of these powers, less 1, is a prime. What is true of INTEGERS is found by their rests
 # modulo such a prime, where they stay small, and then tried; a greater prime tells greater answers.
 PRIME_POWERS = (521, 1279, 2203, 4423, 9689, 19937, 44497)
+# Another such power, for what wants no fractions: which rows are made of others, and which degrees there are.
+SMALL_POWER = 61
 
 
 def primes():
     """The primes of PRIME_POWERS, rising."""
     return [(1 << power) - 1 for power in PRIME_POWERS]
+
+
+def moduli():
+    """A prime that is done with quickly, the greater ones, and at last 0, which goes for none."""
+    return [(1 << SMALL_POWER) - 1, *primes(), 0]
 
 
 def shrunk(wholes, prime):
@@ -29,6 +36,20 @@ def primitive(wholes):
     if shared == 0:
         return list(wholes)
     return [whole // shared for whole in wholes]
+
+
+def lowest(tops, bottom):
+    """The polynomial of the tops over the bottom as (tops, bottom), the bottom the least one and above 0."""
+    shared = bottom
+    for top in tops:
+        shared = gcd(shared, top)
+        if shared == 1:
+            break
+    if bottom < 0:
+        shared = -abs(shared)
+    else:
+        shared = abs(shared)
+    return [top // shared for top in tops], bottom // shared
 
 
 def small_multiple(rest, prime, limit):
@@ -96,6 +117,16 @@ def whole_product(first, second):
     return found
 
 
+def whole_put_in(wholes, tops, bottom):
+    """The polynomial with the one of the tops over the bottom put in, times such a number that it is of INTEGERS."""
+    found, power = [0], 1
+    for whole in wholes[::-1]:
+        found = whole_product(found, tops) if any(found) else [0]
+        found[0] += whole * power
+        power = power * bottom
+    return primitive(found)
+
+
 def whole_quotient(first, second):
     """The first polynomial divided by the second one, None unless it comes out in INTEGERS without a rest."""
     rest, found = first, []
@@ -160,3 +191,11 @@ def taken_off(first, second):
     low = [one * head for one in first[:place]]
     high = [one * head - two * lead for one, two in zip(first[place:], second)]
     return low + high[:-1]
+
+
+def lowered_by(poly, heads, prime):
+    """The polynomial taken off by the heads, a dict by degrees, as far as they go from its head down."""
+    one = poly
+    while one and len(one) - 1 in heads:
+        one = without_noughts(shrunk(taken_off(one, heads[len(one) - 1]), prime))
+    return one

@@ -40,6 +40,72 @@ EXAMPLES = '''
 [[[0, 2], [3, 0]], [3, 0], None, True, [[0]]]
 >>> [lots_of_ways([2, 3], 6), lots_of_ways([2, 3], 8), turning_counts([4, 6, 7]), turning_counts([3, 3]), turning_counts([5])]
 [[[[0, 2]], [[3, 0]]], [[[1, 2], [4, 0]]], [12, 14], [3], []]
+
+>>> from fromplaces.makers import degrees, is_makers, told_makers
+>>> some = [[0, 0, 1], (0, -1, 0, 1, 0)]
+>>> [is_makers(some), is_makers([[3]]), is_makers([]), degrees(some), len(told_makers(some)[1])]
+[True, False, False, [2, 3], 4]
+
+>>> from fromplaces.makings import is_making, lines_by, made_by, product_making, sum_making
+>>> from fromplaces.polys import told
+>>> five = [[(1, 2, 1), (2, 0, 1)]]
+>>> [made_by(some, five) == told([0, -1, 0, 0, 0, 1]), is_making(some, [[(3, 0, 1)]]), is_making(some, [[], [(3, 1, 2)]]), lines_by(some, [[], [(0, 0, 7)]])]
+[True, False, True, [[], [Ratio(7, 1)]]]
+
+>>> [made_by(some, sum_making(some, five, [[(2, 0, 1)]], -1)) == told([0, 0, 0, -1, 0, 1]), made_by(some, product_making(some, five, [[(0, 0, 2)]])) == told([0, -2, 0, 0, 0, 2])]
+[True, True]
+
+>>> from fromplaces.inner import digits, outer, root_part
+>>> [digits([0, 1, 1], [0, 0, 1]) == [told([0, 1]), told([1])], outer([1, 0, 2, 0, 1], [0, 0, 1]) == told([1, 2, 1]), outer([0, 1, 1], [0, 0, 1]), digits([0], [0, 1])]
+[True, True, None, []]
+>>> [root_part([1, 4, 6, 4, 1], 2) == told([0, 2, 1]), root_part([0, 1, 0, 1], 1) == told([0, 1]), root_part([0, 1, 0, 0, 1], 2), root_part([7, 4, 2], 2) == told([0, 2, 1])]
+[True, True, None, True]
+
+>>> from fromplaces.bases import base_makings, common_degree, full_base, inner_part, is_full_base, met_counts
+>>> from fromplaces.ratios import Ratio
+>>> pen, three, even = [[3, 0, 2], [0, -1, 0, 1]], [[0, 0, 0, 0, 1], [0, 0, 0, 0, 0, 0, 1], [0, -1, 0, 0, 0, 0, 0, 1]], [[1, 2, 1], [0, 4, 6, 4, 1]]
+>>> [full_base(pen) == [[Ratio(0), Ratio(0), Ratio(1)], [Ratio(0), Ratio(-1), Ratio(0), Ratio(1)]], met_counts(three), is_full_base(three, [[0, 0, 1], three[2]]), full_base(even) == [[Ratio(0), Ratio(2), Ratio(1)]]]
+[True, [2, 7], True, True]
+>>> [common_degree(pen), common_degree(even), inner_part(even) == [Ratio(0), Ratio(2), Ratio(1)], inner_part(pen) == [Ratio(0), Ratio(1)], len(base_makings(three)), is_full_base(pen, pen)]
+[1, 2, True, True, 2, False]
+
+>>> from fromplaces.made import is_made, is_making_of, left, making_of, taken_to
+>>> [left(pen, [0, 1, 0, 0, 1]) == [Ratio(0), Ratio(1)], is_made(pen, [0, -1, 0, 0, 0, 1]), is_made(even, [0, 0, 1]), is_made(pen, [7]), left(pen, [7])]
+[True, True, False, True, []]
+>>> [is_making_of(pen, [0, -1, 0, -1, 0, 2], [[(1, 2, 1), (0, 2, -2)]]), making_of(pen, [0, 1]), is_making_of(pen, [0, 0, 1], [[(0, 1, Ratio(1, 2)), (0, 0, Ratio(-3, 2))]]), taken_to(pen, 5) == [Ratio(0), Ratio(-1), Ratio(0), Ratio(0), Ratio(0), Ratio(1)], taken_to(pen, 1)]
+[True, None, True, True, None]
+
+>>> from fromplaces.ratios import Ratio
+>>> from fromplaces.rooms import Room, is_room, led_room, meet_room, sum_room, within
+>>> place, stop = Room([-1, 0, 1], [[0, 0, 1], [0, -1, 0, 1]]), Room([0, 0, 0, 2], [[0, 0, 1]])
+>>> [place.rows() == [[Ratio(0), Ratio(1)]], place.ties, place.holds([0, 1, 0, 0, 1]), place.holds([5, -3, 0, 3]), stop.heads(), stop.size(), stop.rest([1, 0, 0, 4])]
+[True, 1, False, True, [0, 2], 2, [Ratio(1, 1)]]
+>>> [Room([0, 0, 0, 1], [[0, 1]]).is_all, is_room([0, 0, 1], [[0, 1]]), is_room([1, 0, 0, 1], [[1, 0, 0], [0, 0, 1]]), place]
+[True, True, False, Room([Ratio(-1, 1), Ratio(0, 1), Ratio(1, 1)], [[Ratio(1, 1)]])]
+>>> [within(Room([0, 0, 0, 1], []), stop), meet_room(stop, Room([0, 0, 0, 1], [])).heads(), sum_room(stop, Room([0, 0, 0, 1], [[0, 1]])).ties, led_room(stop, [0, 0, 1]).heads()]
+[True, [0], 0, [0]]
+
+>>> from fromplaces.kept import is_kept_apart, kept_apart, local_made
+>>> makers = [[0, 0, 1], [0, -1, 0, 1]]
+>>> [is_kept_apart(makers, [0, 1], place), is_kept_apart(makers, [0, 1], stop), is_kept_apart(makers, [0, 1], kept_apart(makers, [0, 1])), kept_apart(makers, [7, 0, -3])]
+[True, False, True, None]
+>>> [local_made(makers, [0, 1], [-1, 0, 1]), local_made(makers, [0, 1], [-2, 1]), local_made([[0, 0, 1]], [0, 1], [1, 0, 1])]
+[False, True, False]
+
+>>> from fromplaces.houses import House
+>>> from fromplaces.rooms import Room
+>>> cross, stop = House([[0, 0, 1], [0, -1, 0, 1]]), House([[0, 0, 0, 1], [1, 0, 2]])
+>>> [cross.gaps(), cross.gap_count, cross.holds([0, -1, 0, 0, 0, 1]), cross.left([5, 3, 0, 0, 1]), cross.clock()]
+[[1], 1, True, [Ratio(0, 1), Ratio(3, 1)], [Ratio(-1, 1), Ratio(0, 1), Ratio(1, 1)]]
+>>> [cross.room() == Room([-1, 0, 1], []), House([[0, 1], [0, 0, 2]]).room(), stop == House([[0, 0, 0, -1], [0, 0, 1, 1]])]
+[True, None, True]
+>>> stop
+House([[Ratio(0, 1), Ratio(0, 1), Ratio(1, 1)], [Ratio(0, 1), Ratio(0, 1), Ratio(0, 1), Ratio(1, 1)]])
+
+>>> from fromplaces.clocks import house_of, is_clock_of, least_clock
+>>> flat = Room([0, 0, 0, 1], [[0, 0, 1]])
+>>> [house_of(flat) == stop, least_clock(flat), is_clock_of(cross, [0, -1, 0, 1]), is_clock_of(cross, [0, 0, 1]), is_clock_of(cross, [])]
+[True, [Ratio(0, 1), Ratio(0, 1), Ratio(1, 1)], True, False, False]
 '''
 
 

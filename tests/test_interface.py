@@ -27,6 +27,31 @@ FUNCTIONS = {
         "ways": "counts many", "a_way": "counts many", "is_way": "counts many value", "lots_of_ways": "counts many",
         "turning_counts": "counts",
     },
+    "makers": {"is_makers": "value", "told_makers": "makers", "degrees": "makers"},
+    "makings": {
+        "is_making": "makers value", "made_by": "makers making", "lines_by": "makers making",
+        "sum_making": "makers making other number", "product_making": "makers making other",
+    },
+    "inner": {"digits": "poly inner", "outer": "poly inner", "root_part": "poly many"},
+    "bases": {
+        "full_base": "makers", "is_full_base": "makers value", "base_makings": "makers", "met_counts": "makers",
+        "common_degree": "makers", "inner_part": "makers",
+    },
+    "made": {
+        "left": "makers poly", "is_made": "makers poly", "making_of": "makers poly",
+        "is_making_of": "makers poly value", "taken_to": "makers many",
+    },
+    "rooms": {
+        "Room": "clock polys", "is_room": "clock value", "room_by": "clock rows", "within": "room other",
+        "sum_room": "room other", "meet_room": "room other", "led_room": "room clock",
+    },
+    "kept": {"kept_apart": "makers poly", "is_kept_apart": "makers poly value", "local_made": "makers poly clock"},
+    "houses": {"House": "makers"},
+    "clocks": {"house_of": "room", "is_clock_of": "house value", "least_clock": "room"},
+}
+ROOM_METHODS = {"size": "self", "clock": "self", "rows": "self", "rest": "self poly", "holds": "self poly", "heads": "self"}
+HOUSE_METHODS = {
+    "base": "self", "gaps": "self", "holds": "self poly", "left": "self poly", "clock": "self", "room": "self",
 }
 RATIO_METHODS = {"over": "other", "size": "", "is_below": "other", "is_at_most": "other", "total": "numbers"}
 
@@ -54,6 +79,18 @@ class Interface(unittest.TestCase):
         for name in ["top", "bottom", "sign", "is_whole"]:
             self.assertIsInstance(vars(ratio)[name], property)
         self.assertIsInstance(vars(ratio)["total"], classmethod)
+
+    def test_room_and_house(self):
+        for file, name, methods, properties in [
+            ("rooms", "Room", ROOM_METHODS, ["ties", "is_all"]), ("houses", "House", HOUSE_METHODS, ["gap_count"]),
+        ]:
+            kind = getattr(importlib.import_module("fromplaces." + file), name)
+            for method, wanted in methods.items():
+                self.assertEqual(parameters(vars(kind)[method]), wanted)
+            for one in properties:
+                self.assertIsInstance(vars(kind)[one], property)
+            for one in ["__eq__", "__repr__"]:
+                self.assertIn(one, vars(kind))
 
     def test_folder(self):
         folder = os.path.dirname(fromplaces.__file__)
