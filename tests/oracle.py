@@ -45,29 +45,24 @@ def lowered(poly, heads):
     return left
 
 
-def closed(makers, most):
-    """All that makers make, by products of a degree to most alone: the dict of degrees with one of each, head 1."""
+def made_of(makers, most):
+    """All that makers make by products of a degree to most alone, those that stand before they fall away counted.
+
+    For each degree there is one polynomial of it, its head 1, else with numbers at powers that are no such degree.
+    """
     polys = [fractions(one) for one in makers]
-    heads = {0: [Fraction(1)]}
-    waiting = [one for one in polys]
+    heads, waiting = {0: [Fraction(1)]}, list(polys)
     while waiting:
         waiting.sort(key=len)
         left = lowered(waiting.pop(0), heads)
         if left:
             heads[len(left) - 1] = [number / left[-1] for number in left]
-            waiting.extend([
-                product(left, one) for one in polys if len(left) + len(one) - 2 <= most
-            ])
-    return {power: lowered(one[:-1] + [Fraction(0)], {k: v for k, v in heads.items() if k < power}) for power, one in heads.items()}, heads
-
-
-def made_of(makers, most):
-    """For each met count to most the made polynomial with else numbers at powers that are not met alone."""
-    lower, _ = closed(makers, most)
-    found = {}
-    for power, low in lower.items():
-        found[power] = low + [Fraction(0)] * (power - len(low)) + [Fraction(1)]
-    return found
+            waiting.extend([product(left, one) for one in polys if len(left) + len(one) - 2 <= most])
+    for power in sorted(heads):
+        low = lowered(heads[power][:-1], {other: one for other, one in heads.items() if other < power})
+        heads[power] = low + [Fraction(0)] * (power - len(low)) + [Fraction(1)]
+    heads[0] = [Fraction(1)]
+    return heads
 
 
 def hull(clock, polys):

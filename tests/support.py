@@ -96,3 +96,37 @@ def ratio(number):
         top, _, bottom = number.partition("/")
         return Ratio(int(top), int(bottom or 1))
     return Ratio(number) if isinstance(number, int) else number
+
+
+# Values that are no makers.
+NO_MAKERS = NO_KIND + [
+    3, Ratio(2), [], (), [[]], [[1]], [[0, 0]], [[0, 1], []], [[0, 1], [7]], [[0, 1], 3], [0, 1], [Ratio(1), Ratio(2)],
+    [[0, 1]] * 5, ([0, 1],) * 5, [[0] * 8 + [1]], [[0, 1], [0] * 48 + [1]], [[0, True]], [[0, 1], [False, 1]],
+    [[0, "1"]], [[0, 1], "01"], [[0, 1], None], [[[0, 1]]], [{0: 1}], [[0, 1] + [0] * 48],
+]
+# Values that are no clock.
+NO_CLOCK = NO_POLY + [[], [0], [3], (0, 0), [Ratio(1, 2), 0], [0] * 21 + [1], [0] * 48 + [1]]
+
+
+def told_ratios(polys):
+    """The polynomials, lists of numbers, as lists of Ratios."""
+    return [ratios(*poly) for poly in polys]
+
+
+def digits_of(numbers):
+    """The most digits above or below a stroke."""
+    return max([max(len(str(abs(one.top))), len(str(one.bottom))) for one in numbers], default=0)
+
+
+def six_digits(source, degree):
+    """A polynomial of this degree of fractions of six digits above and below the stroke."""
+    return [Ratio(source.choice([-1, 1]) * source.randint(1, 999999), source.randint(1, 999999)) for _ in range(degree + 1)]
+
+
+def small_makers(source, most=7):
+    """Makers of small INTEGERS, some of them noughts."""
+    found, greatest = [], source.choice([1, 2, 5])
+    for _ in range(source.randint(1, 4)):
+        numbers = [source.randint(-greatest, greatest) * source.randint(0, 1) for _ in range(source.randint(1, most))]
+        found.append(numbers + [source.choice([-1, 1, 2])])
+    return found
