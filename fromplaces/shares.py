@@ -7,7 +7,7 @@ from fromplaces.solved import headed_steps
 from fromplaces.wholes import inverse
 
 # Shares of more bits than this are looked for once more, with some products more to be shared among.
-LONG_BITS = 5000
+LONG_BITS = 5500
 MORE_PRODUCTS = 6
 
 

@@ -59,7 +59,7 @@ def spanning(gens, wanted, prime, spares):
         candidates = next_powers(by_weight, weight, gens, places)
         for powers, ahead, at in candidates:
             one = shrunk(whole_product(polys[ahead], gens[at]), prime)
-            left = lowered_by(one, heads, prime)
+            left = lowered_by(one, heads, prime) if are_parts_kept(powers, places) else []
             if left:
                 heads[len(left) - 1] = left
                 polys.append(one)
@@ -73,19 +73,20 @@ def spanning(gens, wanted, prime, spares):
 
 
 def next_powers(by_weight, weight, gens, places):
-    """The products of this degree that are kept ones times one of gens, as (powers, place ahead, place in gens).
-
-    One of which a part is a sum of products ahead of it is such a sum itself, and left out.
-    """
+    """The products of this degree that are kept ones times one of gens, as (powers, place ahead, place in gens)."""
     found = []
     for at, gen in enumerate(gens):
         for powers in by_weight.get(weight - len(gen) + 1, []):
             if not any(powers[at + 1:]):
-                one = moved_power(powers, at, 1)
-                parts = [moved_power(one, place, -1) for place in range(len(gens)) if one[place] > 0]
-                if all([part in places for part in parts]):
-                    found.append((one, places[powers], at))
+                found.append((moved_power(powers, at, 1), places[powers], at))
     return found
+
+
+def are_parts_kept(powers, places):
+    """Whether all products are kept of which this one is one times one of gens."""
+    # If one is a sum of multiples of products ahead of it, so is this one.
+    parts = [moved_power(powers, at, -1) for at, power in enumerate(powers) if power > 0]
+    return all([part in places for part in parts])
 
 
 def moved_power(powers, at, more):
