@@ -30,9 +30,9 @@ def shorter(numbers, others):
 
     So many more numbers stand behind the first ones.
     """
-    # Let n / b be the shares, and m / c those of another product. Then (q n - s m) / q b are shares, too, with s c
-    # / q b of that product. For any q and s, not too great, that lead to a multiple of what b and c have in common
-    # this falls away; what may be is told by one place, as the others have multiples of its numbers, but for this.
+    # Where the goal has the shares n / b and the other product m / c, the goal has for any q and s the shares
+    # (q n - s m) / q b, too, and s c / q b of that product. Modulo what b and c have in common n and m are multiples
+    # of one list: for some q and s that are not great q n - s m is a multiple of it, and it falls away.
     tops, bottom = over_one_bottom(numbers)
     shares = [over_one_bottom(one) for one in others]
     vectors = common_vectors(tops, bottom, shares)
@@ -40,7 +40,7 @@ def shorter(numbers, others):
     for often, *more in vectors:
         if often != 0:
             parts = [
-                often * top - sum([one * behind[0][place] for one, behind in zip(more, shares)])
+                often * top - sum([one * share[0][place] for one, share in zip(more, shares)])
                 for place, top in enumerate(tops)
             ]
             behind = [one * share[1] for one, share in zip(more, shares)]
@@ -60,7 +60,7 @@ def common_vectors(tops, bottom, shares):
         modulus = modulus // shared
         shared = gcd(first[at], modulus)
     back = inverse(first[at] % modulus, modulus)
-    units = [[1 if at == place else 0 for at in range(len(shares))] for place in range(1, len(shares))]
+    units = [[1 if column == row else 0 for column in range(len(shares))] for row in range(1, len(shares))]
     behind = [[0, -numbers[at] * back % modulus, *unit[1:]] for (numbers, _), unit in zip(shares[1:], units)]
     none = [0] * (len(shares) - 1)
     return reduced([[1, tops[at] * back % modulus, *none], *behind, [0, modulus, *none]])

@@ -11,7 +11,7 @@ MOST_ROWS = 60
 def steps(rows):
     """The steps of the rows, a list of lists."""
     check_rows(rows)
-    return [row for _, row in headed_steps([whole_row(row) for row in rows])]
+    return [row for _, row in headed_steps([whole_row(one) for one in rows])]
 
 
 def kernel(rows, wide):

@@ -3,10 +3,12 @@
 import random
 import unittest
 
+from fromplaces.clocks import least_clock
 from fromplaces.clockwork import clock_by
 from fromplaces.cores import Core, products, tried_leads
 from fromplaces.lefts import lefts_of
 from fromplaces.ratios import Ratio
+from fromplaces.rooms import Room
 from fromplaces.shares import most_bits, reduced, shared_out, shorter
 from fromplaces.stairs import spanning, stair_degrees
 from fromplaces.wholes import lowest, moduli, whole_product, whole_put_in
@@ -41,6 +43,10 @@ class Primes(Case):
         gens = [[0, 0, 0, 0, 1], [0, prime, 0, 0, 0, 0, 1]]
         self.assertIsNone(tried_leads(gens, prime))
         self.assertEqual(Core(gens).prime, next_prime)
+        # The prime times t is made: t to the 3 and the 5 come to t to the 8, and the prime times t to the 4.
+        gens = [[0, 0, 0, 1], [0, 0, 0, 0, 1], [0, prime, 0, 0, 0, 1]]
+        self.assertIsNone(tried_leads(gens, prime))
+        self.assertEqual(Core(gens).leads, {1: [0, 1]})
 
     def test_without_a_prime(self):
         great = all_primes()
@@ -69,6 +75,11 @@ class Primes(Case):
             self.assertEqual(clock_by(lefts, [1], 2, 2), [Ratio(-number), Ratio(0), Ratio(1)])
             self.assertIsNone(clock_by(lefts, [1], 2, 1))
         self.assertEqual(clock_by([], [], 1, 0), ratios(1))
+        # Modulo the first prime the room is that of 1 and t t t, of the clock t t t.
+        prime = moduli()[0]
+        for number in [prime, great]:
+            self.assertEqual(least_clock(Room([0, 0, 0, 0, 1], [[0, 0, number, 1]])), ratios(0, 0, 0, 0, 1))
+        self.assertEqual(least_clock(Room([0, 0, 0, 0, 1], [[0, 0, 0, 1]])), ratios(0, 0, 0, 1))
 
 
 class Shares(Case):

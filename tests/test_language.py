@@ -261,6 +261,35 @@ class Language(unittest.TestCase):
                     yield node
         self.check("L4, L5, L21", wrong)
 
+    def test_names_in_inner_comprehensions(self):
+        def targets(node):
+            return {one.id for one in ast.walk(node) if isinstance(one, ast.Name) and isinstance(one.ctx, ast.Store)}
+
+        def assigned(function):
+            inner = [one for one in ast.walk(function) if isinstance(one, COMPREHENSIONS)]
+            hidden = {id(one) for node in inner for part in node.generators for one in ast.walk(part.target)}
+            names = {one.arg for one in ast.walk(function.args) if isinstance(one, ast.arg)}
+            return names | {
+                one.id for one in ast.walk(function)
+                if isinstance(one, ast.Name) and isinstance(one.ctx, ast.Store) and id(one) not in hidden
+            }
+
+        def wrong(file):
+            for function in file.functions:
+                outer = assigned(function)
+                for node in [one for one in ast.walk(function) if isinstance(one, COMPREHENSIONS)]:
+                    ahead, above = set(outer), file.parents[node]
+                    is_inner = False
+                    while above is not function:
+                        if isinstance(above, COMPREHENSIONS):
+                            is_inner = True
+                            ahead |= {name for part in above.generators for name in targets(part.target)}
+                        above = file.parents[above]
+                    own = {name for part in node.generators for name in targets(part.target)}
+                    if is_inner and own & ahead:
+                        yield node
+        self.check("L7", wrong)
+
     def test_is(self):
         def wrong(file):
             for node in file.nodes:
