@@ -1,6 +1,6 @@
 """What makers of the common degree 1 make: their least met degrees, and something made of each."""
 
-from fromplaces.counts import least_of
+from fromplaces.counts import is_in_table, least_of, met_table, unmet
 from fromplaces.lefts import left_of, lefts_of, taken
 from fromplaces.ratios import over_one_bottom
 from fromplaces.shares import LONG_BITS, MORE_PRODUCTS, most_bits, shared_out, shorter
@@ -52,7 +52,7 @@ def tried_leads(gens, prime):
     if not all([count in made for count in least]):
         return None
     leads = {count: made[count] for count in least}
-    return (leads, kept) if are_all_made(gens, leads, stairs) else None
+    return (leads, kept) if are_all_made(gens, leads) else None
 
 
 def products(gens, kept):
@@ -74,13 +74,18 @@ def headed_tops(polys):
     return found
 
 
-def are_all_made(gens, leads, stairs):
-    """Whether all that gens make is made of the leads, the least degree of each rest being the stairs."""
-    # What the leads make are sums of these least ones times sums of powers of the first of gens. It holds all
-    # that is made exactly if nothing is left of the least ones times each of gens.
-    lefts = lefts_of(leads, max(stairs) + len(gens[-1]) - 1)
+def are_all_made(gens, leads):
+    """Whether all that gens make are sums of what is taken to the counts that the leads meet."""
+    # As they are worked out, these sums hold 1, and with each one its product by what is taken to the least degree.
+    # So they hold all that gens make if they hold the products of each of gens by the first one of each rest modulo
+    # this degree.
+    least = sorted(list(leads))
+    last = max([least[0] - 1, *unmet(least)]) + least[0]
+    is_met = met_table(least, last)
+    firsts = [count for count in range(last + 1) if is_met[count] and not is_in_table(is_met, count - least[0])]
+    lefts = lefts_of(leads, last + len(gens[-1]) - 1)
     for gen in gens:
-        for count in stairs:
+        for count in firsts:
             tops, _ = left_of(whole_product(gen, taken(lefts, count)), 1, lefts)
             if tops:
                 return False

@@ -82,6 +82,11 @@ def met_table(counts, many):
     return table
 
 
+def is_in_table(table, count):
+    """Whether the INTEGER is met, by the table; one below 0 is not."""
+    return count >= 0 and table[count]
+
+
 def is_next_met(counts, table, count):
     """Whether the count is met, by a table that tells it of all lesser ones."""
     return any([one <= count and table[count - one] for one in counts])

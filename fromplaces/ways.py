@@ -1,7 +1,7 @@
 """The ways in which a COUNT is a sum of told counts, their lots, and turning counts."""
 
 from fromplaces.basics import check_many, is_count, is_list
-from fromplaces.counts import check_counts, common_count, met_table, unmet
+from fromplaces.counts import check_counts, common_count, is_in_table, met_table, unmet
 from fromplaces.errors import TooMany
 
 MOST_MANY = 200
@@ -108,8 +108,3 @@ def lot_number(counts, count, table):
             apart = [lot for lot in lots if lot not in near]
             lots = [*apart, [at, *[place for lot in near for place in lot]]]
     return len(lots)
-
-
-def is_in_table(table, count):
-    """Whether the INTEGER is met, by the table; one below 0 is not."""
-    return count >= 0 and table[count]
