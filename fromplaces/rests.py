@@ -75,7 +75,7 @@ def tried_hull(rests, clock, prime):
     if shrunk(clock[-1:], prime) == [0]:
         return None
     wide = len(clock) - 1
-    kept, makers = hull_products(rests, clock, prime)
+    kept, factors = hull_products(rests, clock, prime)
     if len(kept) == wide:
         # So many unlike products are all that there is: none of the numbers of the rows needs to be reckoned.
         units = [(at, [Ratio(1 if place == at else 0) for place in range(wide)]) for at in range(wide)]
@@ -86,7 +86,7 @@ def tried_hull(rests, clock, prime):
     rows = Rows(headed_steps([whole_row_of(one, wide) for one in polys]), wide)
     # Sums of these products are a room that holds all the rests if they have all rests, and all products by those
     # of which the products are.
-    behind = [product_rest(one, rests[at], clock, 0) for at in makers for one in rows.rests()]
+    behind = [product_rest(one, rests[at], clock, 0) for at in factors for one in rows.rests()]
     return rows if all([rows.has(one) for one in [*rests, *behind]]) else None
 
 
@@ -98,11 +98,11 @@ def hull_products(rests, clock, prime):
     """
     modulus = shrunk(clock, prime)
     short = [rest_like(one, modulus, prime) for one in rests]
-    polys, kept, makers, heads = [[1]], [(0, 0)], [], {0: [1]}
+    polys, kept, factors, heads = [[1]], [(0, 0)], [], {0: [1]}
     for at, one in enumerate(short):
         if not lowered_by(one, heads, prime):
             continue
-        makers.append(at)
+        factors.append(at)
         waiting = [(ahead, at) for ahead in range(len(polys))]
         while waiting:
             ahead, place = waiting[0]
@@ -113,5 +113,5 @@ def hull_products(rests, clock, prime):
                 heads[len(left) - 1] = left
                 polys.append(product)
                 kept.append((ahead, place))
-                waiting.extend([(len(polys) - 1, maker) for maker in makers])
-    return kept, makers
+                waiting.extend([(len(polys) - 1, factor) for factor in factors])
+    return kept, factors
