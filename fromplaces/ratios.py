@@ -126,3 +126,9 @@ def over_one_bottom(numbers):
     for fraction in fractions:
         bottom = lcm(bottom, fraction.bottom)
     return [fraction.top * (bottom // fraction.bottom) for fraction in fractions], bottom
+
+
+def rising_places(numbers):
+    """The places of the NUMBERS, those of lesser ones first."""
+    tops, _ = over_one_bottom(numbers)
+    return [at for _, at in sorted([(top, place) for place, top in enumerate(tops)])]

@@ -106,6 +106,31 @@ House([[Ratio(0, 1), Ratio(0, 1), Ratio(1, 1)], [Ratio(0, 1), Ratio(0, 1), Ratio
 >>> flat = Room([0, 0, 0, 1], [[0, 0, 1]])
 >>> [house_of(flat) == stop, least_clock(flat), is_clock_of(cross, [0, -1, 0, 1]), is_clock_of(cross, [0, 0, 1]), is_clock_of(cross, [])]
 [True, [Ratio(0, 1), Ratio(0, 1), Ratio(1, 1)], True, False, False]
+
+>>> from fromplaces.houses import House
+>>> from fromplaces.times import bundle, bundle_gaps, is_parted, is_plain_time, same_place, times_at
+>>> cross, cusp = House([[0, 0, 1], [0, -1, 0, 1]]), House([[0, 0, 1], [0, 0, 0, 1]])
+>>> [[str(one) for one in times_at(cross, 1)], same_place(cross, 1, -1), is_plain_time(cross, 0), bundle(cross, -1) == times_at(cross, 1), [str(one) for one in bundle(cross, 5)], bundle_gaps(cross, 1), bundle_gaps(cross, 5), is_parted(cross, [-1, 0, 1]), is_parted(cross, [-1, 1])]
+[['-1', '0', '1'], True, True, True, ['1'], 1, 0, True, False]
+
+>>> from fromplaces.stops import clock_times, crossings, is_stop, stop_part, weight
+>>> [[str(one) for one in stop_part(cusp)], is_stop(cusp, 0), is_stop(cross, 1), weight(cusp, 0), weight(cusp, 1), [(str(one), often) for one, often in clock_times(cusp)], crossings(cusp)]
+[['0', '1'], True, False, 2, 1, [('0', 2)], []]
+>>> [[(str(one), often) for one, often in clock_times(cross)], [[str(one) for one in some] for some in crossings(cross)]]
+[[('-1', 1), ('1', 1)], [['-1', '1']]]
+
+>>> from fromplaces.together import is_lone, is_within, joined, lone, met_house
+>>> loop, stop = House([[0, 0, 1], [0, -1, 0, 1]]), House([[0, 0, 1], [0, 0, 0, 1]])
+>>> [joined(loop, stop).gaps(), met_house(loop, stop).gaps(), met_house(loop, stop) == House([[0, 0, 1], [0, 0, 0, -1, 0, 1]]), is_within(met_house(loop, stop), loop)]
+[[], [1, 3], True, True]
+>>> [is_within(loop, stop), is_lone(loop, stop, [0, -1, 0, 1]), is_lone(loop, stop, [0, 0, 1]), is_lone(loop, stop, lone(loop, stop)), lone(loop, loop)]
+[False, True, False, True, None]
+
+>>> from fromplaces.moves import is_even, is_moved, is_power_house, moved, power_house
+>>> [moved(loop, 2, 1).clock() == told([0, 1, 1]), is_moved(loop, House([[0, 1, 1], [0, -1, 0, 1]]), 2, 1), is_moved(stop, stop, -3, 0), is_moved(stop, stop, 1, 1)]
+[True, True, True, False]
+>>> [power_house([2, 3]) == stop, is_power_house(loop), is_even(loop), is_even(power_house([3, 4, 5])), power_house([3, 4]).gaps()]
+[True, False, True, False, [1, 2, 5]]
 '''
 
 

@@ -48,6 +48,22 @@ FUNCTIONS = {
     "kept": {"kept_apart": "makers poly", "is_kept_apart": "makers poly value", "local_made": "makers poly clock"},
     "houses": {"House": "makers"},
     "clocks": {"house_of": "room", "is_clock_of": "house value", "least_clock": "room"},
+    "times": {
+        "times_at": "house number", "same_place": "house number other", "is_plain_time": "house number",
+        "bundle": "house number", "bundle_gaps": "house number", "is_parted": "house first",
+    },
+    "stops": {
+        "stop_part": "house", "is_stop": "house number", "weight": "house number", "clock_times": "house",
+        "crossings": "house",
+    },
+    "together": {
+        "joined": "house other", "met_house": "house other", "is_within": "house other", "lone": "house other",
+        "is_lone": "house other value",
+    },
+    "moves": {
+        "moved": "house first second", "is_moved": "house other first second", "is_even": "house",
+        "power_house": "counts", "is_power_house": "house",
+    },
 }
 ROOM_METHODS = {"size": "self", "clock": "self", "rows": "self", "rest": "self poly", "holds": "self poly", "heads": "self"}
 HOUSE_METHODS = {
