@@ -22,3 +22,12 @@ def check_many(many, least, most):
     """Raises InvalidMany unless many is a COUNT from least to most."""
     if not is_count(many) or many < least or many > most:
         raise InvalidMany(many)
+
+
+def copied(value):
+    """The value with new lists and tuples, also within them."""
+    if isinstance(value, list):
+        return [copied(one) for one in value]
+    if isinstance(value, tuple):
+        return tuple([copied(one) for one in value])
+    return value

@@ -87,6 +87,15 @@ def making_to(frame, poly):
     return builder.built
 
 
+def making_of_degree(frame, count):
+    """A making that comes to something of this met degree above 0."""
+    splits = power_splits(frame, count)
+    builder = Builder(frame)
+    builder.add_leads(used_leads(splits, [count]))
+    builder.put_line([builder.power_part(count, Ratio(1), splits)])
+    return builder.built
+
+
 def power_splits(frame, last):
     """The dict of met counts to the last one, least ones left out, with two others that add up to each."""
     least = frame.least()

@@ -6,7 +6,7 @@ Names stand for what they were in the last example that gave them, so all exampl
 import doctest
 import unittest
 
-EXAMPLES = '''
+EXAMPLES = r'''
 >>> from fromplaces.ratios import Ratio
 >>> [Ratio(4, -6), str(Ratio(1, 2) + 3), Ratio(1, 3).is_below(Ratio(2, 5))]
 [Ratio(-2, 3), '7/2', True]
@@ -131,6 +131,36 @@ House([[Ratio(0, 1), Ratio(0, 1), Ratio(1, 1)], [Ratio(0, 1), Ratio(0, 1), Ratio
 [True, True, True, False]
 >>> [power_house([2, 3]) == stop, is_power_house(loop), is_even(loop), is_even(power_house([3, 4, 5])), power_house([3, 4]).gaps()]
 [True, False, True, False, [1, 2, 5]]
+
+>>> from fromplaces.ratios import Ratio
+>>> from fromplaces.rooms import Room
+>>> from fromplaces.texts import is_of_sort, written
+>>> [written("number", Ratio(-3, 2)), written("poly", [1, 0, 2, 0]), written("room", Room([-2, 0, 2], [])), is_of_sort("makers", [[1], [0, 1]])]
+['number -3/2\n', 'poly 1 0 2\n', 'clock -1 0 1\nrow 0 1\n', False]
+
+>>> from fromplaces.readers import read
+>>> [read("number 1/2\n"), read("clock -1 0 1\nrow 0 1\n") == ("room", Room([-1, 0, 1], []))]
+[('number', Ratio(1, 2)), True]
+>>> read("making\nline\ntimes 1 1 1\nline\n")
+('making', [[(1, 1, Ratio(1, 1))], []])
+
+>>> from fromplaces.claims import contrary, is_paper_of, is_true
+>>> makers, crossed = [[0, 0, 1], [0, -1, 0, 1]], Room([-1, 0, 1], [])
+>>> [is_paper_of(("made", makers, [0, -1, 0, 0, 0, 1]), [[(1, 2, 1), (0, 2, 1)]]), is_paper_of(("tied", makers), crossed), is_true(("joint", makers, 1, -1)), is_paper_of(("gap", makers, 1), crossed)]
+[True, True, True, True]
+>>> [contrary(("joint", makers, 1, 2)) == ("apart", makers, 1, 2), is_paper_of(("beyond", [[0, 0, 1], [0, 1]], makers), (1, crossed)), is_paper_of(("within", [[0, 0, 0, 0, 1]], makers), [[[(1, 1, 1)]]]), is_paper_of(("apart", makers, 1, 2), 1)]
+[True, True, True, True]
+
+>>> from fromplaces.commands import is_command, is_deed
+>>> [is_command("poly f 1,0,1/2"), is_command("poly f 1, 1"), is_deed("claim k made m f"), is_command("claim k met m 3"), is_deed("gaps m"), is_command("room r c f g")]
+[True, False, True, True, False, True]
+
+>>> from fromplaces.desk import Desk
+>>> desk = Desk()
+>>> desk.do_all("poly f 0,0,1", "poly g 0,-1,0,1", "makers m f g", "poly h 0,-1,0,0,0,1", "claim k made m h", "claim a all m", "gaps m", "clock c m", "show c", "counts m")
+['-', '-', '-', '-', 'k true', 'a false', '1', '-', '-1,0,1', '2 3']
+>>> desk.do_all("roomof r m c", "show r", "ties r", "holds r h", "poly t 0,1", "add m t", "states", "undo", "meets m 1", "change h 1 0", "show m")
+['-', '-1,0,1 | 1', '1', 'yes', '-', 'a true', 'a true, k true', 'add m t', '-1,0,1', 'k false', '0,0,1; 0,-1,0,1']
 '''
 
 

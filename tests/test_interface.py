@@ -64,10 +64,22 @@ FUNCTIONS = {
         "moved": "house first second", "is_moved": "house other first second", "is_even": "house",
         "power_house": "counts", "is_power_house": "house",
     },
+    "texts": {"sorts": "", "is_of_sort": "sort value", "written": "sort value"},
+    "readers": {"read": "text"},
+    "claims": {
+        "words": "", "is_claim": "value", "is_true": "claim", "contrary": "claim", "paper_of": "claim",
+        "is_paper_of": "claim value",
+    },
+    "commands": {"is_name": "value", "is_command": "value", "is_deed": "value"},
+    "desk": {"Desk": "", "Trial": "desk", "tried": "desk action"},
 }
 ROOM_METHODS = {"size": "self", "clock": "self", "rows": "self", "rest": "self poly", "holds": "self poly", "heads": "self"}
 HOUSE_METHODS = {
     "base": "self", "gaps": "self", "holds": "self poly", "left": "self poly", "clock": "self", "room": "self",
+}
+DESK_METHODS = {
+    "claim_of": "self label", "do": "self command", "do_all": "self *commands", "attempt": "self *commands",
+    "attach": "self label paper", "fits": "self label", "lines": "self", "copy": "self",
 }
 RATIO_METHODS = {"over": "other", "size": "", "is_below": "other", "is_at_most": "other", "total": "numbers"}
 
@@ -107,6 +119,19 @@ class Interface(unittest.TestCase):
                 self.assertIsInstance(vars(kind)[one], property)
             for one in ["__eq__", "__repr__"]:
                 self.assertIn(one, vars(kind))
+
+    def test_desk_and_trial(self):
+        module = importlib.import_module("fromplaces.desk")
+        for method, wanted in DESK_METHODS.items():
+            self.assertEqual(parameters(vars(module.Desk)[method]), wanted)
+        for one in ["names", "labels"]:
+            self.assertIsInstance(vars(module.Desk)[one], property)
+        self.assertIsInstance(vars(module.Desk)["again"], classmethod)
+        self.assertEqual(parameters(module.Desk.again), "lines")
+        for one in ["__len__", "__getitem__", "__contains__", "__call__"]:
+            self.assertIn(one, vars(module.Desk))
+        for one in ["__enter__", "__exit__"]:
+            self.assertIn(one, vars(module.Trial))
 
     def test_folder(self):
         folder = os.path.dirname(fromplaces.__file__)
