@@ -26,7 +26,7 @@ def words():
 
 def is_claim(value):
     """Whether the value is a claim."""
-    if not isinstance(value, tuple) or len(value) < 2 or not isinstance(value[0], str):
+    if not isinstance(value, tuple) or len(value) < 2:
         return False
     word, some, *parts = value
     if not is_makers(some):

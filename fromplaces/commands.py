@@ -108,7 +108,7 @@ def part_of(kind, word):
     if kind == "count":
         count = count_from(word)
         return count if count is not None and count <= GREATEST_COUNT else None
-    return word if kind == "word" or is_name(word) else None
+    return word if is_name(word) else None
 
 
 def poly_part(word):

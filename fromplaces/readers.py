@@ -53,7 +53,7 @@ def read_makers(lines):
     found = []
     for number, words in enumerate(lines[1:], start=2):
         poly = poly_from(words) if words[0] == "maker" else None
-        if poly is None or not is_makers([poly]) or len(found) == MOST_MAKERS:
+        if not is_makers([poly]) or len(found) == MOST_MAKERS:
             raise InvalidText(number)
         found.append(poly)
     return found if found else None
@@ -77,7 +77,7 @@ def read_making(lines):
 def read_room(lines):
     """The Room, None if the rows are not those of a room."""
     clock = poly_from(lines[0])
-    if clock is None or not is_clock(clock) or clock[-1] != Ratio(1):
+    if not is_clock(clock) or clock[-1] != Ratio(1):
         raise InvalidText(1)
     rows = []
     for number, words in enumerate(lines[1:], start=2):

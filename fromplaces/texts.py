@@ -51,7 +51,7 @@ def written(sort, value):
 
 def check_sort(sort):
     """Raises InvalidSort unless it is the word of a sort."""
-    if not isinstance(sort, str) or sort not in SORTS:
+    if sort not in SORTS:
         raise InvalidSort(sort)
 
 

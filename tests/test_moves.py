@@ -167,7 +167,7 @@ class Power(Case):
             self.assertIs(self.unchanged(is_power_house, house), wanted)
         for makers, wanted in [
             (CUSP, True), (CROSS, False), (ALL, True), ([[5, 3]], True), ([[1, 0, 7], [2, 0, 5, 3]], True), ([[0, 0, 1], [0, 0, 0, 1, 0, 1]], False),
-            ([[0, 0, 0, 1, 1], [0, 0, 0, 0, 3]], True), ([[0, 0, 0, 1, 0, 1], [0, 0, 0, 0, 3]], False),
+            ([[0, 0, 0, 1, 1], [0, 0, 0, 0, 3]], True), ([[0, 0, 0, 1, 0, 1], [0, 0, 0, 0, 3]], False), ([[0, 0, 1, 1], [0, 0, 0, 0, 1]], False),
         ]:
             self.assertIs(is_power_house(House(makers)), wanted)
         self.assertIs(is_power_house(house=moved(STOP, 5, 0)), True)

@@ -12,7 +12,7 @@ from fromplaces.parts import common
 from fromplaces.polys import degree, derived, plus, times, worth
 from fromplaces.ratios import Ratio
 from fromplaces.rooms import Room
-from fromplaces.roots import fraction_roots
+from fromplaces.roots import fitting_prime, fraction_roots, is_prime
 from fromplaces.stops import clock_times, crossings, is_stop, stop_part, weight
 from fromplaces.times import is_plain_time, same_place
 from fromplaces.wholes import primitive
@@ -125,6 +125,15 @@ class ClockTimes(Case):
             found = fraction_roots(primitive(wholes))
             self.assertEqual({(top, bottom): often for top, bottom, often in found}, wanted)
             self.assertEqual(len(found), len(wanted))
+
+    def test_roots_that_the_powers_of_the_prime_just_tell(self):
+        for top, bottom in [(250007, 249999), (-250007, 249998), (3, 250007), (250007, 1), (279839, 279841 - 529), (11, 12), (374, 373), (-529, 1)]:
+            self.assertEqual(fraction_roots([-top, bottom]), [(top, bottom, 1)])
+            self.assertEqual(sorted(fraction_roots([-top * 0, -top, bottom])), sorted([(0, 1, 1), (top, bottom, 1)]))
+
+    def test_primes(self):
+        self.assertEqual([n for n in range(2, 60) if is_prime(n)], [2, 3, 5, 7, 11, 13, 17, 19, 23, 29, 31, 37, 41, 43, 47, 53, 59])
+        self.assertEqual([fitting_prime([0, 1]), fitting_prime([-23, 0, 1]), fitting_prime([1, 23 * 29]), fitting_prime([0, 23, 1])], [23, 29, 31, 29])
 
     def test_roots_of_one_rest_modulo_small_primes(self):
         clock = ratios(1)

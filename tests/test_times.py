@@ -153,6 +153,23 @@ class Parted(Case):
             self.assertIs(self.unchanged(is_parted, house, first), wanted, first)
             self.assertIs(is_parted(first=first, house=house), wanted)
 
+    def test_what_does_not_divide_the_clock(self):
+        for house in some_houses():
+            for first in [[-2, 1], [Ratio(-17, 3), 1], [1, 0, 0, 1], [5, 1, 1], [7, 0, 0, 0, 2]]:
+                if divided(house.clock(), first)[1]:
+                    self.assertIs(is_parted(house, first), False)
+            for number in (Ratio(101), Ratio(-7, 5)):
+                more = times(bundle(house, 0), [number, 1])
+                self.assertIs(is_parted(house, more), False)
+
+    def test_a_common_part_with_the_quotient(self):
+        # Modulo t to the 4 there are two ties, modulo t t one: as many as the house's gaps, but they are not parted.
+        house = House([[0, 0, 0, 1], [0] * 4 + [1]])
+        self.assertEqual([house.clock(), house.gap_count], [ratios(*[0] * 6, 1), 3])
+        for power in range(1, 6):
+            self.assertIs(is_parted(house, [0] * power + [1]), False)
+        self.assertIs(is_parted(house, [0] * 6 + [1]), True)
+
     def test_any(self):
         for house in some_houses():
             clock = house.clock()
